@@ -145,9 +145,9 @@ type ends struct {
 	told   bool
 }
 
-func (w *ends) add(lo *big.Int, hi *big.Int, told bool) {
+func (w *ends) add(lo *big.Int, hi *big.Int) {
 	w.lo, w.hi = append(w.lo, lo), append(w.hi, hi)
-	w.told = w.told && told && dyTellable(lo, w.e) && dyTellable(hi, w.e)
+	w.told = w.told && dyTellable(lo, w.e) && dyTellable(hi, w.e)
 }
 
 // same fails unless got has these ends where they may be told, else it must be the zero value and false. It was made of what of has.
@@ -173,7 +173,7 @@ func (w *ends) same(t *testing.T, name string, got impl.IvMat, ok bool, of ...an
 func endsOf(v impl.IvMat) *ends {
 	want := &ends{n: v.N, e: -impl.MaxE, told: true}
 	for _, w := range v.A {
-		want.add(scaled(w.Lo), scaled(w.Hi), true)
+		want.add(scaled(w.Lo), scaled(w.Hi))
 	}
 	return want
 }
@@ -188,27 +188,23 @@ func wantHeldSum(a impl.IvMat, b impl.IvMat) *ends {
 	for i, v := range a.A {
 		lo := new(big.Int).Add(scaled(v.Lo), scaled(b.A[i].Lo))
 		hi := new(big.Int).Add(scaled(v.Hi), scaled(b.A[i].Hi))
-		want.add(lo, hi, true)
+		want.add(lo, hi)
 	}
 	return want
 }
 
-// wantHeldProduct adds the products one by one, from the first column of a on: none of them, and no sum on the way, may be one that is not told.
+// wantHeldProduct adds the products of each row and column. They, and the sums on the way, may be any: just the ends of the answer must be told.
 func wantHeldProduct(a impl.IvMat, b impl.IvMat) *ends {
-	e := -2 * impl.MaxE
-	want := &ends{n: a.N, e: e, told: true}
+	want := &ends{n: a.N, e: -2 * impl.MaxE, told: true}
 	for i := range a.N {
 		for j := range a.N {
-			told := true
 			lo, hi := new(big.Int), new(big.Int)
 			for k := range a.N {
 				least, most := extremesOf(a.A[i*a.N+k], b.A[k*a.N+j], func(x, y *big.Int) *big.Int { return new(big.Int).Mul(x, y) })
-				lo, hi = new(big.Int).Add(lo, least), new(big.Int).Add(hi, most)
-				for _, x := range []*big.Int{least, most, lo, hi} {
-					told = told && dyTellable(x, e)
-				}
+				lo.Add(lo, least)
+				hi.Add(hi, most)
 			}
-			want.add(lo, hi, told)
+			want.add(lo, hi)
 		}
 	}
 	return want
@@ -540,7 +536,7 @@ func sameHeldQuotient(t *testing.T, a impl.IvMat, k int, low int) (impl.IvMat, b
 	want := &ends{n: a.N, e: low, told: true}
 	by := new(big.Int).Lsh(big.NewInt(int64(k)), impl.MaxE)
 	for _, v := range a.A {
-		want.add(stepsOf(scaled(v.Lo), by, low, impl.RdDown), stepsOf(scaled(v.Hi), by, low, impl.RdUp), true)
+		want.add(stepsOf(scaled(v.Lo), by, low, impl.RdDown), stepsOf(scaled(v.Hi), by, low, impl.RdUp))
 	}
 	got, ok := impl.IvMatDiv(a, k, low)
 	want.same(t, "IvMatDiv", got, ok, a, k, low)
@@ -603,7 +599,7 @@ func sameHeldOut(t *testing.T, a impl.IvMat, low int) {
 	for _, v := range a.A {
 		lo, _ := wantRound(v.Lo, low, impl.RdDown)
 		hi, _ := wantRound(v.Hi, low, impl.RdUp)
-		want.add(lo, hi, true)
+		want.add(lo, hi)
 	}
 	got, ok := impl.IvMatOut(a, low)
 	want.same(t, "IvMatOut", got, ok, a, low)
@@ -659,7 +655,7 @@ func sameFat(t *testing.T, a impl.IvMat, by impl.Dy) (impl.IvMat, bool) {
 	t.Helper()
 	want := &ends{n: a.N, e: -impl.MaxE, told: true}
 	for _, v := range a.A {
-		want.add(new(big.Int).Sub(scaled(v.Lo), scaled(by)), new(big.Int).Add(scaled(v.Hi), scaled(by)), true)
+		want.add(new(big.Int).Sub(scaled(v.Lo), scaled(by)), new(big.Int).Add(scaled(v.Hi), scaled(by)))
 	}
 	got, ok := impl.IvMatFat(a, by)
 	want.same(t, "IvMatFat", got, ok, a, by)

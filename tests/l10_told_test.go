@@ -120,7 +120,7 @@ func TestIvMatProductsBetweenTheEnds(t *testing.T) {
 	}
 }
 
-// onTheWay has products in the order of a's columns, and whether all of them and all sums on the way may be told.
+// onTheWay has products in the order of a's columns, and whether both ends of their sum may be told.
 type onTheWay struct {
 	list []impl.Iv
 	ok   bool
@@ -133,23 +133,25 @@ func waysOfIvs() []onTheWay {
 	low := func(e int) impl.Iv { return ivInt(-1, 0, e) }
 	most := alone(dy(mostNat(), 0))
 	return []onTheWay{
-		// A sum of two, as they come, has 1601 bits, or all on the way has less.
-		{[]impl.Iv{power(1600), power(0), less(1600)}, false}, {[]impl.Iv{power(1600), less(1600), power(0)}, true}, {[]impl.Iv{power(0), power(1600), less(1600)}, false},
-		{[]impl.Iv{power(0), less(1600), power(1600)}, true}, {[]impl.Iv{less(1600), power(1600), power(0)}, true}, {[]impl.Iv{less(1600), less(0), power(1600)}, false},
-		{[]impl.Iv{power(1599), power(0), less(1599)}, true}, {[]impl.Iv{most, power(1), less(0)}, false}, {[]impl.Iv{most, less(0), power(1)}, true}, {[]impl.Iv{power(1), less(0), most}, true},
-		{[]impl.Iv{most, power(0), power(0)}, false}, {[]impl.Iv{power(0), power(0), most}, false}, {[]impl.Iv{most, power(0), power(1)}, true}, {[]impl.Iv{power(0), most, power(1)}, true},
-		// A sum of two is beyond MaxE, or all on the way is less.
-		{[]impl.Iv{power(3000), power(3000), less(3000)}, false}, {[]impl.Iv{power(3000), less(3000), power(3000)}, true}, {[]impl.Iv{less(3000), power(3000), power(3000)}, true},
-		{[]impl.Iv{power(3000), power(3000), power(3000)}, false}, {[]impl.Iv{power(2999), power(2999), power(2999)}, true}, {[]impl.Iv{power(2999), power(2999), less(2999)}, true},
-		{[]impl.Iv{power(2998), power(2998), power(2998), power(2998)}, true}, {[]impl.Iv{power(2999), power(2999), power(2999), power(2999)}, false}, {[]impl.Iv{power(2999), power(2999), power(2999), less(2999)}, true}, {[]impl.Iv{power(2998), power(2998), power(2999), power(1599)}, true},
+		// A sum of two, as they come, has 1601 bits, and what follows undoes it, or does not.
+		{[]impl.Iv{power(1600), power(0), less(1600)}, true}, {[]impl.Iv{power(1600), less(1600), power(0)}, true}, {[]impl.Iv{power(0), power(1600), less(1600)}, true}, {[]impl.Iv{less(1600), less(0), power(1600)}, true},
+		{[]impl.Iv{power(1600), power(0), {}}, false}, {[]impl.Iv{power(1600), power(0), power(0)}, true}, {[]impl.Iv{power(1600), power(0), power(1)}, false}, {[]impl.Iv{power(1599), power(0), less(1599)}, true},
+		{[]impl.Iv{most, power(1), less(0)}, true}, {[]impl.Iv{most, less(0), power(1)}, true}, {[]impl.Iv{most, power(0), power(0)}, false}, {[]impl.Iv{power(0), power(0), most}, false}, {[]impl.Iv{most, power(0), power(1)}, true},
+		{[]impl.Iv{power(1600), power(0), less(0), less(1600)}, true}, {[]impl.Iv{{}, power(1600), power(0), less(1600)}, true}, {[]impl.Iv{power(1600), {}, {}, power(0)}, false}, {[]impl.Iv{power(1599), {}, {}, power(0)}, true},
+		// A sum of two is beyond MaxE, and what follows brings it back, or does not.
+		{[]impl.Iv{power(3000), power(3000), less(3000)}, true}, {[]impl.Iv{power(3000), power(3000), power(3000)}, true}, {[]impl.Iv{power(3000), power(3000), {}}, false}, {[]impl.Iv{less(3000), less(3000), {}}, false},
+		{[]impl.Iv{power(2999), power(2999), power(2999), power(2999)}, false}, {[]impl.Iv{power(2999), power(2999), power(2999), less(2999)}, true}, {[]impl.Iv{power(3000), power(3000), less(3000), less(3000)}, true},
+		{[]impl.Iv{power(3000), power(-3000)}, false}, {[]impl.Iv{power(3000), power(-3000), less(-3000)}, true}, {[]impl.Iv{power(3000), less(3000)}, true},
+		// A product is beyond MaxE, or below the least one.
+		{[]impl.Iv{power(3001)}, false}, {[]impl.Iv{power(3001), power(3000)}, true}, {[]impl.Iv{power(3001), less(3000)}, true}, {[]impl.Iv{power(3001), power(3001)}, false}, {[]impl.Iv{power(4000), less(4000)}, true},
+		{[]impl.Iv{power(4000), less(4000), power(4000)}, false}, {[]impl.Iv{power(6000), less(6000), power(-6000), less(-6000)}, true}, {[]impl.Iv{power(6000), less(6000), power(-6000), power(-6000)}, false},
+		{[]impl.Iv{power(-3001)}, false}, {[]impl.Iv{power(-3001), power(-3001)}, true}, {[]impl.Iv{power(-3001), power(-3000)}, false}, {[]impl.Iv{power(-3001), less(-3000), power(-3001)}, true}, {[]impl.Iv{less(-6000), power(-6000)}, true},
 		// One of the ends alone has it.
-		{[]impl.Iv{high(1600), high(0), low(1600)}, false}, {[]impl.Iv{low(1600), low(0), high(1600)}, false}, {[]impl.Iv{high(1600), low(0), low(1600)}, false}, {[]impl.Iv{high(1600), low(0), high(1)}, true},
-		{[]impl.Iv{low(1600), high(0), low(1)}, true}, {[]impl.Iv{high(3000), high(3000), less(3000)}, false}, {[]impl.Iv{low(3000), low(3000), power(3000)}, false}, {[]impl.Iv{high(3000), low(3000), high(2999)}, true},
-		{[]impl.Iv{high(3000), less(3000), high(3000)}, true}, {[]impl.Iv{low(3000), power(3000), low(3000)}, true},
-		// With four, the last one or two undo what was.
-		{[]impl.Iv{power(1600), power(0), less(0), less(1600)}, false}, {[]impl.Iv{power(1600), less(1600), power(0), less(0)}, true}, {[]impl.Iv{power(3000), power(3000), less(3000), less(3000)}, false},
-		{[]impl.Iv{power(3000), less(3000), less(3000), power(3000)}, true}, {[]impl.Iv{{}, power(1600), power(0), less(1600)}, false}, {[]impl.Iv{{}, power(1600), less(1600), power(0)}, true},
-		{[]impl.Iv{power(1600), {}, {}, power(0)}, false}, {[]impl.Iv{power(1599), {}, {}, power(0)}, true}, {[]impl.Iv{power(3000), power(-3000)}, false}, {[]impl.Iv{power(3000), less(3000)}, true},
+		{[]impl.Iv{high(1600), high(0), less(1600)}, true}, {[]impl.Iv{low(1600), low(0), power(1600)}, true}, {[]impl.Iv{high(1600), high(0), low(1600)}, false}, {[]impl.Iv{low(1600), low(0), high(1600)}, false},
+		{[]impl.Iv{high(1600), low(0), low(1600)}, false}, {[]impl.Iv{high(1600), low(0), high(1)}, true}, {[]impl.Iv{low(1600), high(0), low(1)}, true}, {[]impl.Iv{high(3000), high(3000), less(3000)}, true},
+		{[]impl.Iv{low(3000), low(3000), power(3000)}, true}, {[]impl.Iv{high(3000), high(3000)}, false}, {[]impl.Iv{low(3000), low(3000)}, false}, {[]impl.Iv{high(3000), low(3000), high(2999)}, true}, {[]impl.Iv{high(3001), less(3000)}, true},
+		{[]impl.Iv{low(3001), power(3000)}, true}, {[]impl.Iv{high(3001), high(3000)}, true}, {[]impl.Iv{low(3001), low(3000)}, true}, {[]impl.Iv{high(4000), less(4000)}, false}, {[]impl.Iv{high(4000), low(4000)}, false},
+		{[]impl.Iv{high(-3001), high(-3001)}, true}, {[]impl.Iv{high(-3001), low(-3001)}, false}, {[]impl.Iv{high(-3001), high(-3001), low(-3000)}, true}, {[]impl.Iv{low(-3001), low(-3001), high(-3001)}, false},
 	}
 }
 
@@ -169,36 +171,66 @@ func factorsOf(v impl.Iv) (impl.Iv, impl.Iv) {
 	return impl.Iv{Lo: scale(v.Lo), Hi: scale(v.Hi)}, alone(dyInt(1, e-half))
 }
 
-// The sum goes on by the columns of a, and each product and each sum on the way is one of IvMul and IvAdd: another order would be told elsewhere.
+// Both ends of one place's sum must be told, and nothing on the way to them; all other places are 0. In whichever order the products come, that is alike.
 func TestIvMatProductOnTheWay(t *testing.T) {
 	for _, row := range waysOfIvs() {
 		n := len(row.list)
 		for place := range n * n {
-			i, j := place/n, place%n
-			a, b := sameIvs(n, impl.Iv{}), sameIvs(n, impl.Iv{})
-			for k, v := range row.list {
-				a.A[i*n+k], b.A[k*n+j] = factorsOf(v)
-			}
-			if _, ok := sameHeldProduct(t, a, b); ok != row.ok {
-				t.Fatal(row, place, ok)
+			for from := range n {
+				i, j := place/n, place%n
+				a, b := sameIvs(n, impl.Iv{}), sameIvs(n, impl.Iv{})
+				for k, v := range slices.Concat(row.list[from:], row.list[:from]) {
+					a.A[i*n+k], b.A[k*n+j] = factorsOf(v)
+				}
+				if _, ok := sameHeldProduct(t, a, b); ok != row.ok {
+					t.Fatal(row, place, from, ok)
+				}
 			}
 		}
 	}
 }
 
-// Products that may not be told are refused, where they go out against each other, too: a matrix of numbers has that product.
-func TestIvMatProductsThatGoOut(t *testing.T) {
-	long := dy(plus(two(800), 1), 0)
-	rows := [][2]impl.Dy{{dyInt(1, 3000), dyInt(1, 3000)}, {dyInt(1, -3000), dyInt(1, -3000)}, {long, long}, {dyInt(1, 1500), dyInt(1, 1501)}}
+// outRow has two numbers whose product may not be told, and a third one.
+type outRow struct{ x, y, z impl.Dy }
+
+func outRows() []outRow {
+	long, most := dy(plus(two(800), 1), 0), dy(mostNat(), 0)
+	rows := [][2]impl.Dy{{dyInt(1, 3000), dyInt(2, 0)}, {dyInt(1, 3000), dyInt(1, 3000)}, {dyInt(1, -3000), dyInt(1, -3000)}, {long, long}, {most, most}, {most, dyInt(3, 0)}, {dy(mostNat(), 3000), dy(mostNat(), 3000)}, {dyInt(1, 1500), dyInt(1, 1501)}}
+	var list []outRow
 	for _, row := range rows {
-		x, y := row[0], row[1]
-		a, b := matOf(2, x, x, impl.Dy{}, impl.Dy{}), matOf(2, y, impl.Dy{}, impl.DyNeg(y), impl.Dy{})
-		if _, ok := impl.MatMul(a, b); !ok {
-			t.Fatal("MatMul", row)
+		for _, z := range []impl.Dy{{}, dyInt(-3, 1), dyInt(1, 3000), dyInt(-1, -3000), most} {
+			list = append(list, outRow{row[0], row[1], z})
 		}
-		got, ok := impl.IvMatMul(pointsOf(a), pointsOf(b))
-		refusedIvMat(t, fmt.Sprint("IvMatMul ", row), got, ok)
-		sameHeldProduct(t, pointsOf(a), pointsOf(b))
+	}
+	return list
+}
+
+// Products that may not be told go out against each other, and the third number is left, as it is of matrices of numbers.
+func TestIvMatProductsThatGoOut(t *testing.T) {
+	one := dyInt(1, 0)
+	for _, row := range outRows() {
+		for place := range 9 {
+			i, j := place/3, place%3
+			a, b := noughts(3), noughts(3)
+			for k := range 3 {
+				from := (k + place) % 3
+				a.A[i*3+k], b.A[k*3+j] = []impl.Dy{row.x, row.z, row.x}[from], []impl.Dy{row.y, one, impl.DyNeg(row.y)}[from]
+			}
+			left, ok := impl.MatMul(a, b)
+			if !ok || !equalDys(left.A[place], row.z) {
+				t.Fatal("MatMul", row)
+			}
+			got, ok := sameHeldProduct(t, pointsOf(a), pointsOf(b))
+			sameAsIvMat(t, fmt.Sprint("IvMatMul ", row), got, ok, pointsOf(left))
+			if scaled(row.z).Sign() != 0 {
+				continue
+			}
+			// Two of one sign do not go out.
+			last := (5 - place%3) % 3
+			if _, ok := sameHeldProduct(t, pointsOf(a), pointsOf(with(b, last*3+j, row.y))); ok {
+				t.Fatal("IvMatMul", row, place)
+			}
+		}
 	}
 }
 
