@@ -70,12 +70,15 @@ func wantNumber(word string) (impl.Dy, bool) {
 // tokenForm is a token of a plain text.
 var tokenForm = regexp.MustCompile(`[\[\];]|[^\[\]; ]+`)
 
-// wantReading goes over the tokens once, by the document's words.
 func wantReading(b []byte) reading {
 	if len(b) > impl.MaxText {
 		return wrongly(impl.RdLong, 0)
 	}
-	text := wantPlain(b)
+	return wantPlainReading(wantPlain(b))
+}
+
+// wantPlainReading goes over the tokens once, by the document's words.
+func wantPlainReading(text string) reading {
 	open, shut := -1, false
 	rows := [][]impl.Dy{nil}
 	for _, at := range tokenForm.FindAllStringIndex(text, -1) {
